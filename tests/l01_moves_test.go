@@ -60,20 +60,26 @@ func someMoves() []impl.Move {
 	return moves
 }
 
-func TestIsLegal(t *testing.T) {
+// eachStateAndMove calls a function for some moves in all states of at most four discs, and in some
+// of the greater ones.
+func eachStateAndMove(call func(x impl.State, m impl.Move)) {
 	moves := someMoves()
-	for k, n := range shapes() {
-		for rank, x := range statesOf(k, n) {
-			if n > 4 && rank%17 != 0 {
-				continue
-			}
-			for _, m := range moves {
-				if yes, code := impl.IsLegal(x, m); yes != legalByStacks(x, m) || code != impl.ErrNone {
-					t.Fatalf("IsLegal(%v, %v) = %v, %d", x, m, yes, code)
-				}
-			}
+	for rank, x := range allStates() {
+		if len(x.Discs) > 4 && rank%17 != 0 {
+			continue
+		}
+		for _, m := range moves {
+			call(x, m)
 		}
 	}
+}
+
+func TestIsLegal(t *testing.T) {
+	eachStateAndMove(func(x impl.State, m impl.Move) {
+		if yes, code := impl.IsLegal(x, m); yes != legalByStacks(x, m) || code != impl.ErrNone {
+			t.Fatalf("IsLegal(%v, %v) = %v, %d", x, m, yes, code)
+		}
+	})
 }
 
 func TestIsLegalByHand(t *testing.T) {
@@ -144,24 +150,16 @@ func TestLegalMovesByHand(t *testing.T) {
 }
 
 func TestAfterMove(t *testing.T) {
-	moves := someMoves()
-	for k, n := range shapes() {
-		for rank, x := range statesOf(k, n) {
-			if n > 4 && rank%17 != 0 {
-				continue
-			}
-			for _, m := range moves {
-				y, code := impl.AfterMove(x, m)
-				legal := legalByStacks(x, m)
-				if legal && (!sameState(y, moved(x, m)) || code != impl.ErrNone) {
-					t.Fatalf("AfterMove(%v, %v) = %v, %d", x, m, y, code)
-				}
-				if !legal && (!isZeroState(y) || code != impl.ErrState) {
-					t.Fatalf("AfterMove(%v, %v) = %v, %d", x, m, y, code)
-				}
-			}
+	eachStateAndMove(func(x impl.State, m impl.Move) {
+		y, code := impl.AfterMove(x, m)
+		legal := legalByStacks(x, m)
+		if legal && (!sameState(y, moved(x, m)) || code != impl.ErrNone) {
+			t.Fatalf("AfterMove(%v, %v) = %v, %d", x, m, y, code)
 		}
-	}
+		if !legal && (!isZeroState(y) || code != impl.ErrState) {
+			t.Fatalf("AfterMove(%v, %v) = %v, %d", x, m, y, code)
+		}
+	})
 }
 
 func TestRuns(t *testing.T) {
