@@ -81,6 +81,38 @@ func perfectState(k int64, n int64, peg int64) State {
 	return State{Pegs: k, Discs: discs}
 }
 
+// rankOf returns the rank of a state.
+func rankOf(x State) int64 {
+	rank, weight := int64(0), int64(1)
+	for _, peg := range x.Discs {
+		rank += peg * weight
+		weight *= x.Pegs
+	}
+	return rank
+}
+
+// stateOfRank returns the state of n discs on k pegs with a rank, where there is one.
+func stateOfRank(k int64, n int64, r int64) State {
+	discs := make([]int64, n)
+	for d := range discs {
+		discs[d] = r % k
+		r /= k
+	}
+	return State{Pegs: k, Discs: discs}
+}
+
+// codeOfPair returns the code of the first error of states that must have the same numbers of pegs
+// and discs.
+func codeOfPair(x State, y State) int64 {
+	if !IsState(x) || !IsState(y) {
+		return ErrInvalid
+	}
+	if x.Pegs != y.Pegs || len(x.Discs) != len(y.Discs) {
+		return ErrRange
+	}
+	return ErrNone
+}
+
 // IsState reports whether x is a state.
 func IsState(x State) bool {
 	if _, ok := numberOfStates(x.Pegs, int64(len(x.Discs))); !ok {
@@ -122,12 +154,7 @@ func RankOf(x State) (int64, int64) {
 	if !IsState(x) {
 		return 0, ErrInvalid
 	}
-	rank, weight := int64(0), int64(1)
-	for _, peg := range x.Discs {
-		rank += peg * weight
-		weight *= x.Pegs
-	}
-	return rank, ErrNone
+	return rankOf(x), ErrNone
 }
 
 // StateOfRank returns the state of n discs on k pegs with a rank, and ErrNone. (ErrInvalid is not
@@ -137,12 +164,7 @@ func StateOfRank(k int64, n int64, r int64) (State, int64) {
 	if !ok || r < 0 || r >= count {
 		return State{}, ErrRange
 	}
-	discs := make([]int64, n)
-	for d := range discs {
-		discs[d] = r % k
-		r /= k
-	}
-	return State{Pegs: k, Discs: discs}, ErrNone
+	return stateOfRank(k, n, r), ErrNone
 }
 
 // TopOf returns the top of a peg, and ErrNone. Errors: ErrNotFound if no disc is on it.
@@ -298,11 +320,8 @@ func movesToNeighbours(x State) map[discPegs]Move {
 // Errors: ErrRange if the states have not the same numbers of pegs and discs; ErrNotFound if there
 // is none.
 func MoveBetween(x State, y State) (Move, int64) {
-	if !IsState(x) || !IsState(y) {
-		return Move{}, ErrInvalid
-	}
-	if x.Pegs != y.Pegs || len(x.Discs) != len(y.Discs) {
-		return Move{}, ErrRange
+	if code := codeOfPair(x, y); code != ErrNone {
+		return Move{}, code
 	}
 	m, ok := movesToNeighbours(x)[pegsOf(y)]
 	if !ok {

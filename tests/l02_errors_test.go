@@ -6,7 +6,7 @@ import (
 	"loop.example/g01321/impl"
 )
 
-// pathCall calls a function of chapter 2, which leaves out what it does not take, and reports
+// pathCall calls a function of states and a peg, which leaves out what it does not take, and reports
 // whether all results but the code are zero.
 type pathCall func(x impl.State, a int64, y impl.State) (bool, int64)
 

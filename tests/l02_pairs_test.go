@@ -121,7 +121,7 @@ func TestPairsOfEightDiscs(t *testing.T) {
 func TestNumbersOfPairs(t *testing.T) {
 	var toPeg [impl.MaxDiscs][3][]int64
 	for n := range toPeg {
-		all := towersOf(int64(n))
+		all := towersOf(3, int64(n))
 		for a := range toPeg[n] {
 			toPeg[n][a], _ = all.search(all.perfect(int64(a)))
 		}
@@ -136,7 +136,7 @@ func TestNumbersOfPairs(t *testing.T) {
 			d--
 		}
 		p, q := x.Discs[d], y.Discs[d]
-		before, behind := rankBySum(x.Discs[:d]), rankBySum(y.Discs[:d])
+		before, behind := rankBySum(state(3, x.Discs[:d]...)), rankBySum(state(3, y.Discs[:d]...))
 		one := toPeg[d][3-p-q][before] + toPeg[d][3-p-q][behind] + 1
 		two := toPeg[d][q][before] + toPeg[d][p][behind] + 1<<d + 1
 		checkPair(t, x, y, one, two, chosenWay(x, y))
@@ -155,7 +155,7 @@ func TestNumbersOfPairs(t *testing.T) {
 // more.
 func TestDistancesAndWaysBySearch(t *testing.T) {
 	for n := range int64(impl.MaxDiscs + 1) {
-		all := towersOf(n)
+		all := towersOf(3, n)
 		for i, x := range all.states {
 			if n > 6 && i%607 != 0 {
 				continue

@@ -75,7 +75,7 @@ func TestDistancesOfEightDiscsByHand(t *testing.T) {
 
 func TestDistanceToPeg(t *testing.T) {
 	for n := range int64(impl.MaxDiscs + 1) {
-		all := towersOf(n)
+		all := towersOf(3, n)
 		for a := range int64(3) {
 			distances, ways := all.search(all.perfect(a))
 			for rank, x := range all.states {
@@ -131,7 +131,7 @@ func TestGoalsOf(t *testing.T) {
 // TestIsOnWay uses that a state is on the only way exactly if it adds no moves.
 func TestIsOnWay(t *testing.T) {
 	for n := range int64(5) {
-		all := towersOf(n)
+		all := towersOf(3, n)
 		for a := range int64(3) {
 			toPeg, _ := all.search(all.perfect(a))
 			for i, x := range all.states {
@@ -148,7 +148,7 @@ func TestIsOnWay(t *testing.T) {
 }
 
 func TestIsOnWayOfEightDiscs(t *testing.T) {
-	all := towersOf(8)
+	all := towersOf(3, 8)
 	for _, i := range []int64{0, 1, 2186, 3280, 4097, 5555, 6560} {
 		for a := range int64(3) {
 			x := all.states[i]
@@ -156,7 +156,7 @@ func TestIsOnWayOfEightDiscs(t *testing.T) {
 			last := x
 			for _, m := range wayByRecursion(x.Discs, a) {
 				last = moved(last, m)
-				on[rankBySum(last.Discs)] = true
+				on[rankBySum(last)] = true
 			}
 			for j, y := range all.states {
 				if yes, code := impl.IsOnWay(x, a, y); yes != on[int64(j)] || code != impl.ErrNone {

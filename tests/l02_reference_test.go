@@ -11,63 +11,6 @@ import (
 // What chapter 2 returns is held against searches in the graph of all states and against ways by
 // recursion; neither calls the program.
 
-// towers has all states of n discs on three pegs by their ranks, and the ranks of the neighbours.
-type towers struct {
-	states     []impl.State
-	neighbours [][]int64
-}
-
-func towersOf(n int64) towers {
-	var all towers
-	for _, x := range statesOf(3, n) {
-		var next []int64
-		for _, m := range movesByStacks(x) {
-			next = append(next, rankBySum(moved(x, m).Discs))
-		}
-		all.states = append(all.states, x)
-		all.neighbours = append(all.neighbours, next)
-	}
-	return all
-}
-
-// rankBySum returns the rank of the state of discs on three pegs.
-func rankBySum(discs []int64) int64 {
-	rank := int64(0)
-	for d := len(discs) - 1; d >= 0; d-- {
-		rank = 3*rank + discs[d]
-	}
-	return rank
-}
-
-// search returns, for all ranks, the distance from a state and the number of shortest ways.
-func (all towers) search(from int64) ([]int64, []int64) {
-	distances, ways := slices.Repeat([]int64{-1}, len(all.states)), make([]int64, len(all.states))
-	distances[from], ways[from] = 0, 1
-	queue := []int64{from}
-	for i := 0; i < len(queue); i++ {
-		for _, next := range all.neighbours[queue[i]] {
-			if distances[next] < 0 {
-				distances[next] = distances[queue[i]] + 1
-				queue = append(queue, next)
-			}
-			if distances[next] == distances[queue[i]]+1 {
-				ways[next] += ways[queue[i]]
-			}
-		}
-	}
-	return distances, ways
-}
-
-// perfect returns the rank of the state with all discs on a peg.
-func (all towers) perfect(a int64) int64 {
-	return rankBySum(tower(a, int64(len(all.states[0].Discs))))
-}
-
-// tower returns the pegs of n discs that are all on one peg.
-func tower(a, n int64) []int64 {
-	return slices.Repeat([]int64{a}, int(n))
-}
-
 // wayByRecursion returns the way that leads discs from their pegs to a peg.
 func wayByRecursion(pegs []int64, a int64) []impl.Move {
 	if len(pegs) == 0 {
