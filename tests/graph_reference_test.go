@@ -6,7 +6,7 @@ import (
 	"loop.example/g01321/impl"
 )
 
-// Searches in the graph of all states, which do not call the program.
+// Searches in the graph of all states, and in other graphs, which do not call the program.
 
 // towers has all states of n discs on k pegs by their ranks, and the ranks of the neighbours, in the
 // order of the moves.
@@ -39,11 +39,17 @@ func rankBySum(x impl.State) int64 {
 
 // search returns, for all ranks, the distance from a state and the number of shortest ways.
 func (all towers) search(from int64) ([]int64, []int64) {
-	distances, ways := slices.Repeat([]int64{-1}, len(all.states)), make([]int64, len(all.states))
+	return search(all.neighbours, from)
+}
+
+// search returns, for all places in a list of lists of neighbours, the distance from one of them and
+// the number of shortest ways.
+func search(neighbours [][]int64, from int64) ([]int64, []int64) {
+	distances, ways := slices.Repeat([]int64{-1}, len(neighbours)), make([]int64, len(neighbours))
 	distances[from], ways[from] = 0, 1
 	queue := []int64{from}
 	for i := 0; i < len(queue); i++ {
-		for _, next := range all.neighbours[queue[i]] {
+		for _, next := range neighbours[queue[i]] {
 			if distances[next] < 0 {
 				distances[next] = distances[queue[i]] + 1
 				queue = append(queue, next)
