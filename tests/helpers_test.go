@@ -154,6 +154,21 @@ func spoil(list []int64) {
 	}
 }
 
+// checkOwnMoves overwrites the moves that a call returns, with their spare capacity, and fails if what
+// another call returned, or a further one returns, is changed by this.
+func checkOwnMoves(t *testing.T, what string, call func() []impl.Move) {
+	t.Helper()
+	moves, other := call(), call()
+	want := slices.Clone(moves)
+	all := moves[:cap(moves)]
+	for i := range all {
+		all[i] = move(-99, -99, -99)
+	}
+	if again := call(); !slices.Equal(other, want) || !slices.Equal(again, want) {
+		t.Errorf("%s: %v, then %v and %v", what, want, other, again)
+	}
+}
+
 // wantCode fails if a code is not the wanted one.
 func wantCode(t *testing.T, what string, code, want int64) {
 	t.Helper()

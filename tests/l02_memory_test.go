@@ -69,15 +69,7 @@ func TestWaysShareNoMemory(t *testing.T) {
 			"WayBetween": func() []impl.Move { way, _ := impl.WayBetween(p[0], p[1]); return way },
 		}
 		for name, call := range calls {
-			way, other := call(), call()
-			want := slices.Clone(way)
-			all := way[:cap(way)]
-			for i := range all {
-				all[i] = move(-99, -99, -99)
-			}
-			if again := call(); !slices.Equal(other, want) || !slices.Equal(again, want) {
-				t.Errorf("%s: %v, then %v and %v", name, want, other, again)
-			}
+			checkOwnMoves(t, name, call)
 		}
 	}
 }

@@ -1,6 +1,7 @@
 package tests
 
 import (
+	"fmt"
 	"slices"
 	"testing"
 
@@ -199,15 +200,7 @@ func TestMovesOfHeapsShareNoMemory(t *testing.T) {
 			"HeapWay":   func() []impl.Move { way, _ := impl.HeapWay(h, 0); return way },
 		}
 		for name, call := range calls {
-			moves, other := call(), call()
-			want := slices.Clone(moves)
-			all := moves[:cap(moves)]
-			for i := range all {
-				all[i] = move(-99, -99, -99)
-			}
-			if again := call(); !slices.Equal(other, want) || !slices.Equal(again, want) {
-				t.Errorf("%s of %v: %v, then %v and %v", name, h, want, other, again)
-			}
+			checkOwnMoves(t, fmt.Sprintf("%s of %v", name, h), call)
 		}
 	}
 }
