@@ -8,7 +8,8 @@ import (
 	"loop.example/g01321/impl"
 )
 
-// Promise 14, its first part: regular heaps have the distances of their states.
+// Promise 14: regular heaps have the distances of their states, and presumed lists lead towers to the
+// last peg.
 
 // heapStates ranges over all states of three pegs and at most MaxHeap discs.
 func heapStates() iter.Seq[impl.State] {
@@ -103,6 +104,67 @@ func TestPromise14HeapsOfStatesHaveTheirStacks(t *testing.T) {
 		wantCode(t, "StacksOf", code, impl.ErrNone)
 		if h := heapOfState(t, x); !sameLists(h.Stacks, stacks) {
 			t.Errorf("the heap of %v is %v, its stacks are %v", x, h, stacks)
+		}
+	}
+}
+
+// presumedList returns the presumed list of p and n.
+func presumedList(t *testing.T, p, n int64) []impl.Move {
+	t.Helper()
+	moves, code := impl.PresumedMoves(p, n)
+	wantCode(t, "PresumedMoves", code, impl.ErrNone)
+	return moves
+}
+
+// TestPromise14PresumedListsLeadTowersToTheLastPeg has all towers that have states of chapter 1.
+func TestPromise14PresumedListsLeadTowersToTheLastPeg(t *testing.T) {
+	for p, n := range shapes() {
+		first, code := impl.PerfectState(p, n, 0)
+		wantCode(t, "PerfectState", code, impl.ErrNone)
+		last, code := impl.PerfectState(p, n, p-1)
+		wantCode(t, "PerfectState", code, impl.ErrNone)
+		if y, code := impl.RunMoves(first, presumedList(t, p, n)); !sameState(y, last) || code != impl.ErrNone {
+			t.Errorf("the presumed list of %d and %d leads to %v, %d, not to %v", p, n, y, code, last)
+		}
+	}
+}
+
+// TestPromise14PresumedListsLeadGreaterTowersToTheLastPeg has towers of too many discs for a state, too.
+// Of each tower it moves some discs alone, which are few enough: the moves that are left are legal
+// without the other discs.
+func TestPromise14PresumedListsLeadGreaterTowersToTheLastPeg(t *testing.T) {
+	for p, n := range listSizes() {
+		most := min(n, greatestTowers()[p])
+		for least := range n - most + 1 {
+			var part []impl.Move
+			for _, m := range presumedList(t, p, n) {
+				if m.Disc >= least && m.Disc < least+most {
+					part = append(part, move(m.Disc-least, m.From, m.To))
+				}
+			}
+			first, last := state(p, tower(0, most)...), state(p, tower(p-1, most)...)
+			if y, code := impl.RunMoves(first, part); !sameState(y, last) || code != impl.ErrNone {
+				t.Errorf("the presumed list of %d and %d leads the discs from %d on to %v, %d", p, n, least, y, code)
+			}
+		}
+	}
+}
+
+func TestPromise14PresumedListsHaveAsManyMovesAsTold(t *testing.T) {
+	for p, n := range listSizes() {
+		if moves, number := presumedList(t, p, n), presumedNumber(t, p, n); int64(len(moves)) != number {
+			t.Errorf("the presumed list of %d and %d has %d moves, not %d", p, n, len(moves), number)
+		}
+	}
+}
+
+// TestPromise14PresumedListsOfThreePegsAreWays holds since there is just one shortest way.
+func TestPromise14PresumedListsOfThreePegsAreWays(t *testing.T) {
+	for n := range int64(impl.MaxDiscs + 1) {
+		way, code := impl.WayToPeg(perfectOf(t, n, 0), 2)
+		wantCode(t, "WayToPeg", code, impl.ErrNone)
+		if moves := presumedList(t, 3, n); !slices.Equal(moves, way) {
+			t.Errorf("the presumed list of 3 and %d is %v, the way to the last peg is %v", n, moves, way)
 		}
 	}
 }
