@@ -3,8 +3,10 @@ package tests
 import (
 	"iter"
 	"math"
+	"runtime"
 	"slices"
 	"testing"
+	"time"
 
 	"loop.example/g01321/impl"
 )
@@ -175,4 +177,19 @@ func wantCode(t *testing.T, what string, code, want int64) {
 	if code != want {
 		t.Errorf("%s: code %d, want %d", what, code, want)
 	}
+}
+
+// checkGoroutinesEnd fails if goroutines of calls still wait behind them: those of searches that ended
+// may take a moment to vanish.
+func checkGoroutinesEnd(t *testing.T, calls func()) {
+	t.Helper()
+	before := runtime.NumGoroutine()
+	calls()
+	for range 200 {
+		if runtime.NumGoroutine() <= before {
+			return
+		}
+		time.Sleep(10 * time.Millisecond)
+	}
+	t.Errorf("%d goroutines before, %d behind the calls", before, runtime.NumGoroutine())
 }

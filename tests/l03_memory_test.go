@@ -1,10 +1,8 @@
 package tests
 
 import (
-	"runtime"
 	"slices"
 	"testing"
-	"time"
 
 	"loop.example/g01321/impl"
 )
@@ -81,26 +79,19 @@ func TestLeastWaysShareNoMemory(t *testing.T) {
 	}
 }
 
-// TestSearchesEnd looks for goroutines that still wait behind the calls: those of searches that ended
-// may take a moment to vanish.
+// TestSearchesEnd calls each function of chapter 3 that searches.
 func TestSearchesEnd(t *testing.T) {
-	before := runtime.NumGoroutine()
-	for range 20 {
-		for _, p := range graphArguments() {
-			for _, calls := range []map[string]pathCall{graphStateCalls(), graphPairCalls()} {
-				for _, call := range calls {
-					call(p[0], 0, p[1])
+	checkGoroutinesEnd(t, func() {
+		for range 20 {
+			for _, p := range graphArguments() {
+				for _, calls := range []map[string]pathCall{graphStateCalls(), graphPairCalls()} {
+					for _, call := range calls {
+						call(p[0], 0, p[1])
+					}
 				}
 			}
+			impl.DiameterOf(3, 3)
+			impl.CentreOf(4, 2)
 		}
-		impl.DiameterOf(3, 3)
-		impl.CentreOf(4, 2)
-	}
-	for range 200 {
-		if runtime.NumGoroutine() <= before {
-			return
-		}
-		time.Sleep(10 * time.Millisecond)
-	}
-	t.Errorf("%d goroutines before, %d behind the calls", before, runtime.NumGoroutine())
+	})
 }

@@ -80,3 +80,58 @@ func TestPromise15WaysOfRingsAreDiscsOfWays(t *testing.T) {
 		}
 	}
 }
+
+// ringsOfSteps returns the rings of all steps of n rings, in order.
+func ringsOfSteps(t *testing.T, n int64) []int64 {
+	t.Helper()
+	var rings []int64
+	for step := int64(1); step < 1<<n; step++ {
+		ring, code := impl.RingOfStep(n, step)
+		wantCode(t, "RingOfStep", code, impl.ErrNone)
+		rings = append(rings, ring)
+	}
+	return rings
+}
+
+func TestPromise15RulerListsAreRingsOfSteps(t *testing.T) {
+	for n := range int64(impl.MaxDiscs + 1) {
+		list := rulerList(t, n)
+		if rings := ringsOfSteps(t, n); !slices.Equal(list, rings) {
+			t.Errorf("the ruler list of %d is %v, the rings of the steps are %v", n, list, rings)
+		}
+	}
+}
+
+func TestPromise15RulerListsAreDiscsOfWays(t *testing.T) {
+	for n := range int64(impl.MaxDiscs + 1) {
+		list := rulerList(t, n)
+		for pegs, discs := range discsOfLeastWays(t, n) {
+			if !slices.Equal(list, discs) {
+				t.Errorf("the ruler list of %d is %v, the discs from peg to peg %v are %v", n, list, pegs, discs)
+			}
+		}
+		if discs, code := impl.DiscsOfWay(n); !slices.Equal(list, discs) || code != impl.ErrNone {
+			t.Errorf("the ruler list of %d is %v, the discs of the way are %v, %d", n, list, discs, code)
+		}
+	}
+}
+
+// TestPromise15SharesCountRingsAndDiscs counts each disc in all least ways, and each ring among those
+// of the steps.
+func TestPromise15SharesCountRingsAndDiscs(t *testing.T) {
+	for n := range int64(impl.MaxDiscs + 1) {
+		lists := discsOfLeastWays(t, n)
+		rings := ringsOfSteps(t, n)
+		for d := range n {
+			share := shareOfDisc(t, n, d)
+			if times := len(ranksWith(rings, d)); share != int64(times) {
+				t.Errorf("the share of the disc %d of %d is %d, %d steps are of the ring", d, n, share, times)
+			}
+			for pegs, discs := range lists {
+				if times := len(ranksWith(discs, d)); share != int64(times) {
+					t.Errorf("the share of the disc %d of %d is %d, from peg to peg %v it has %d moves", d, n, share, pegs, times)
+				}
+			}
+		}
+	}
+}
