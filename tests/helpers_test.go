@@ -5,6 +5,7 @@ import (
 	"math"
 	"runtime"
 	"slices"
+	"sync"
 	"testing"
 	"time"
 
@@ -116,7 +117,7 @@ func noStates() map[string]impl.State {
 	}
 }
 
-// oddNumbers returns numbers that are never in a range told by the document.
+// oddNumbers returns numbers that are in no range told by the document, but for that of times.
 func oddNumbers() []int64 {
 	return []int64{-1, -2, math.MinInt64, math.MaxInt64, math.MinInt64 + 1, 1 << 32, -(1 << 32)}
 }
@@ -156,6 +157,18 @@ func spoil(list []int64) {
 	}
 }
 
+// checkOwnList overwrites the list that a call returns, with its spare capacity, and fails if what
+// another call returned, or a further one returns, is changed by this.
+func checkOwnList(t *testing.T, what string, call func() []int64) {
+	t.Helper()
+	list, other := call(), call()
+	want := slices.Clone(list)
+	spoil(list)
+	if again := call(); !slices.Equal(other, want) || !slices.Equal(again, want) {
+		t.Errorf("%s: %v, then %v and %v", what, want, other, again)
+	}
+}
+
 // checkOwnMoves overwrites the moves that a call returns, with their spare capacity, and fails if what
 // another call returned, or a further one returns, is changed by this.
 func checkOwnMoves(t *testing.T, what string, call func() []impl.Move) {
@@ -192,4 +205,29 @@ func checkGoroutinesEnd(t *testing.T, calls func()) {
 		time.Sleep(10 * time.Millisecond)
 	}
 	t.Errorf("%d goroutines before, %d behind the calls", before, runtime.NumGoroutine())
+}
+
+// checkSameAtEveryRun fails if calls, some of them at the same time, do not all return the same, on one
+// processor and on several ones.
+func checkSameAtEveryRun[T comparable](t *testing.T, what string, call func() T) {
+	t.Helper()
+	defer runtime.GOMAXPROCS(runtime.GOMAXPROCS(0))
+	want := call()
+	for _, atOnce := range []int{1, 2, 8} {
+		runtime.GOMAXPROCS(atOnce)
+		found := make([]T, 12)
+		var calls sync.WaitGroup
+		for i := range found {
+			calls.Go(func() { found[i] = call() })
+		}
+		calls.Wait()
+		for range 4 {
+			found = append(found, call())
+		}
+		for _, result := range found {
+			if result != want {
+				t.Errorf("%s: %v, then %v", what, want, result)
+			}
+		}
+	}
 }

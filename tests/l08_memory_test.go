@@ -2,7 +2,6 @@ package tests
 
 import (
 	"fmt"
-	"slices"
 	"testing"
 
 	"loop.example/g01321/impl"
@@ -19,13 +18,10 @@ func TestPresumedListsShareNoMemory(t *testing.T) {
 	for p := int64(3); p <= impl.MaxPegs; p++ {
 		for _, n := range []int64{0, 1, 2, 3, 8, 21, 59, 60} {
 			for name, call := range calls {
-				first, _ := call(p, n)
-				other, _ := call(p, n)
-				want := slices.Clone(first)
-				spoil(first)
-				if again, _ := call(p, n); !slices.Equal(other, want) || !slices.Equal(again, want) {
-					t.Errorf("%s(%d, %d) = %v, then %v and %v", name, p, n, want, other, again)
-				}
+				checkOwnList(t, fmt.Sprintf("%s(%d, %d)", name, p, n), func() []int64 {
+					list, _ := call(p, n)
+					return list
+				})
 			}
 		}
 	}

@@ -1,9 +1,8 @@
 package tests
 
 import (
-	"runtime"
+	"fmt"
 	"slices"
-	"sync"
 	"testing"
 
 	"loop.example/g01321/impl"
@@ -44,36 +43,10 @@ func grandResults(n int64) [3]int64 {
 	return [3]int64{total, p, q}
 }
 
-// checkSameGrandResults fails if several calls, some of them at the same time, do not all return the
-// wanted results.
-func checkSameGrandResults(t *testing.T, n int64, want [3]int64) {
-	t.Helper()
-	found := make([][3]int64, 12)
-	var calls sync.WaitGroup
-	for i := range found {
-		calls.Go(func() { found[i] = grandResults(n) })
-	}
-	calls.Wait()
-	for range 4 {
-		found = append(found, grandResults(n))
-	}
-	for _, results := range found {
-		if results != want {
-			t.Errorf("the grand total and the grand average of %d discs are %v, want %v", n, results, want)
-		}
-	}
-}
-
-// TestGrandTotalsAreTheSameAtEveryRun has goroutines that run one after the other, and at the same
-// time.
 func TestGrandTotalsAreTheSameAtEveryRun(t *testing.T) {
-	defer runtime.GOMAXPROCS(runtime.GOMAXPROCS(0))
 	for n := range int64(impl.MaxSearched + 1) {
-		want := grandResults(n)
-		for _, atOnce := range []int{1, 2, 8} {
-			runtime.GOMAXPROCS(atOnce)
-			checkSameGrandResults(t, n, want)
-		}
+		what := fmt.Sprintf("the grand total and the grand average of %d discs", n)
+		checkSameAtEveryRun(t, what, func() [3]int64 { return grandResults(n) })
 	}
 }
 
